@@ -1,0 +1,1 @@
+"""Sharp rises: how likely an answer about bits is yes, as the chance of each bit grows."""
