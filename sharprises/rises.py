@@ -13,6 +13,16 @@ SET_WORD = 7
 ASK = 8
 MEAN = 9
 RISING = 10
+SIDES = 11
+STATE = 12
+YES = 13
+SWAYAT = 14
+SLOPE = 15
+SIZES = 16
+HALF = 17
+WIDTH = 18
+TRIES = 19
+STEEPEST = 20
 
 # How many numbers each call has behind its own, ahead of its row: from begin, 0, to fixed, 21.
 NUMBERS_OF_CALLS = (1, 0, 1, 1, 1, 0, 1, 2, 1, 0, 0, 0, 0, 2, 3, 2, 0, 1, 4, 3, 1, 1)
@@ -64,15 +74,37 @@ def reply_of_making(answer, call, given, row):
 
 
 def reply_of_asking(answer, call, given):
-    """What a call answers that asks about the answer there is."""
+    """What a call answers that asks about words alone."""
     if call == ASK:
         return answer.ask(given[0])
     if call == MEAN:
         return answer.mean()
     if call == RISING:
         return answer.rising()
-    # Any number here would pass for an answer of the document's.
-    raise NotImplementedError(f"call {call} is not built yet")
+    if call == SIDES:
+        return answer.sides()
+    return answer.state()
+
+
+def reply_by_chance(answer, call, given):
+    """What a call answers that asks how likely yes is, and how fast that rises."""
+    if call == YES:
+        return answer.yes(given[0], given[1])
+    if call == SWAYAT:
+        return answer.swayat(given[0], given[1], given[2])
+    if call == SLOPE:
+        return answer.slope(given[0], given[1])
+    if call == SIZES:
+        return answer.sizes()
+    if call == HALF:
+        return answer.half(given[0])
+    if call == WIDTH:
+        return answer.width(given[0], given[1], given[2], given[3])
+    if call == TRIES:
+        return answer.tries(given[0], given[1], given[2])
+    if call == STEEPEST:
+        return answer.steepest(given[0])
+    return answer.fixed(given[0])
 
 
 def reply(answer, call, given, row):
@@ -83,7 +115,9 @@ def reply(answer, call, given, row):
         return [NOT_BEGUN]
     if call <= SET_WORD:
         return reply_of_making(answer, call, given, row)
-    return reply_of_asking(answer, call, given)
+    if call <= STATE:
+        return reply_of_asking(answer, call, given)
+    return reply_by_chance(answer, call, given)
 
 
 def answers(calls):

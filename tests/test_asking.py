@@ -1,18 +1,10 @@
-"""The calls that ask about the answer there is: ask, mean, rising."""
+"""The calls that ask about the answer there is, no chance in it: ask, mean, rising, sides, state, sizes."""
 
 import unittest
 
-from tests.line import MEAN, NEGATED, RISING
-from tests.line import ask, ask_all, begin, bit, least, odd, run, set_word, told
-
-
-def words_of_mask(mask, n):
-    return [x for x in range(2 ** n) if mask & 2 ** x]
-
-
-def never_a_no_above(words, n):
-    """Rising, told otherwise: whatever has all the bits of a yes is a yes."""
-    return all(y in words for x in words for y in range(2 ** n) if x & y == x)
+from tests.line import MEAN, NEGATED, RISING, SIDES, SIZES, STATE
+from tests.line import ask, ask_all, asked, begin, bit, least, never_a_no_above, odd, other_answers, rising_answers
+from tests.line import run, set_word, told, turn, words_of_mask
 
 
 class Ask(unittest.TestCase):
@@ -87,6 +79,83 @@ class Rising(unittest.TestCase):
                 self.assertEqual(replied, [1 if never_a_no_above(words, n) else 0], words)
                 found += replied[0]
             self.assertEqual(found, how_many)
+
+
+class Sides(unittest.TestCase):
+    def test_no_to_all_and_yes_to_all_have_none(self):
+        for n in range(1, 6):
+            self.assertEqual(run(begin(n), SIDES, NEGATED, SIDES)[1::2], [[0], [0]])
+
+    def test_one_bit_has_half_as_many_as_words(self):
+        for n in range(1, 6):
+            for i in range(n):
+                self.assertEqual(run(begin(n), bit(i), SIDES, NEGATED, SIDES)[2::2], [[2 ** (n - 1)]] * 2)
+
+    def test_an_odd_number_of_bits_has_all_there_are(self):
+        for n, all_there_are in [(1, 1), (2, 4), (3, 12), (4, 32), (5, 80)]:
+            self.assertEqual(run(begin(n), odd(2 ** n - 1), SIDES)[-1], [all_there_are])
+
+    def test_one_word_has_one_for_each_bit(self):
+        for n in range(1, 6):
+            for x in range(2 ** n):
+                self.assertEqual(asked(n, [x], SIDES), [[n]])
+
+    def test_the_most_of_three_and_of_five(self):
+        self.assertEqual(run(begin(3), least(2, [1] * 3), SIDES)[-1], [6])
+        self.assertEqual(run(begin(5), least(3, [1] * 5), SIDES)[-1], [30])
+
+    def test_many_answers_counted_two_by_two(self):
+        for n, words in rising_answers() + other_answers():
+            twos = [(x, y) for x in range(2 ** n) for y in range(x) if bin(x ^ y).count("1") == 1]
+            self.assertEqual(asked(n, words, SIDES), [[len([x for x, y in twos if (x in words) != (y in words)])]])
+
+
+class State(unittest.TestCase):
+    def test_no_to_all_and_yes_to_all(self):
+        for n in range(1, 6):
+            self.assertEqual(run(begin(n), STATE, NEGATED, STATE)[1::2], [[n], [n] + list(range(2 ** n))])
+
+    def test_words_stand_rising_however_they_are_told(self):
+        self.assertEqual(run(begin(3), told([6, 1, 4, 1]), STATE)[-1], [3, 1, 4, 6])
+        self.assertEqual(run(begin(5), told(list(range(31, -1, -1))), STATE)[-1], [5] + list(range(32)))
+
+    def test_it_is_told_behind_each_call_that_makes_another_answer(self):
+        self.assertEqual(
+            run(begin(2), STATE, told([3]), STATE, least(1, [0, 1]), STATE, odd(3), STATE, bit(0), STATE,
+                NEGATED, STATE, turn(1), STATE, turn(0), STATE, set_word(2, 1), STATE, set_word(1, 0), STATE)[1::2],
+            [[2], [2, 3], [2, 2, 3], [2, 1, 2], [2, 1, 3], [2, 0, 2], [2, 0, 2], [2, 1, 3], [2, 1, 2, 3], [2, 2, 3]])
+
+    def test_as_ask_tells_it(self):
+        for n, words in rising_answers() + other_answers():
+            self.assertEqual(asked(n, words, STATE), [[n] + words])
+            self.assertEqual(asked(n, words, *ask_all(n)), [[1 if x in words else 0] for x in range(2 ** n)])
+
+    def test_a_begin_again_has_other_bits(self):
+        self.assertEqual(run(begin(2), NEGATED, begin(4), STATE, begin(0), STATE)[3::2], [[4], [4]])
+
+
+class Sizes(unittest.TestCase):
+    def test_no_to_all(self):
+        for n in range(1, 6):
+            self.assertEqual(run(begin(n), SIZES)[-1], [n + 1] + [0] * (n + 1))
+
+    def test_yes_to_all(self):
+        rows = [[1, 1], [1, 2, 1], [1, 3, 3, 1], [1, 4, 6, 4, 1], [1, 5, 10, 10, 5, 1]]
+        for n, row in enumerate(rows, start=1):
+            self.assertEqual(run(begin(n), NEGATED, SIZES)[-1], [n + 1] + row)
+
+    def test_they_stand_from_0_on(self):
+        self.assertEqual(asked(3, [0], SIZES), [[4, 1, 0, 0, 0]])
+        self.assertEqual(asked(3, [1, 4], SIZES), [[4, 0, 2, 0, 0]])
+        self.assertEqual(asked(3, [6, 5, 2, 7], SIZES), [[4, 0, 1, 2, 1]])
+        self.assertEqual(asked(5, [31, 15, 0], SIZES), [[6, 1, 0, 0, 0, 1, 1]])
+
+    def test_each_word_counts_by_its_bits(self):
+        for n in range(1, 6):
+            for x in range(2 ** n):
+                sizes = [0] * (n + 1)
+                sizes[bin(x).count("1")] = 1
+                self.assertEqual(asked(n, [x], SIZES), [[n + 1] + sizes])
 
 
 if __name__ == "__main__":

@@ -3,29 +3,40 @@
 import unittest
 
 from sharprises.rises import answers
-from tests.line import BIGGEST, MEAN, NEGATED, RISING
-from tests.line import ask, ask_all, begin, bit, least, odd, run, set_word, told, turn
+from tests.line import BIGGEST, MEAN, NEGATED, RISING, SIDES, SIZES, STATE
+from tests.line import ask, ask_all, begin, bit, fixed, half, least, odd, run, set_word, slope, steepest, swayat, told
+from tests.line import tries, turn, width, yes
 
 # Each call but begin, handed what would be right for some bits.
 RIGHT_CALLS = [told([]), told([0, 1]), least(0, [1]), least(1, [1, 1, 1, 1, 1]), odd(0), bit(0), NEGATED, turn(0),
-               set_word(0, 1), ask(0), MEAN, RISING]
+               set_word(0, 1), ask(0), MEAN, RISING, SIDES, STATE, yes(1, 2), swayat(0, 1, 2), slope(1, 2), SIZES,
+               half(8), width(8, 1, 2, 3), tries(1, 2, 3), steepest(8), fixed(8)]
 
 # The same, handed what isn't right for any.
 WRONG_CALLS = [told([BIGGEST]), told([0] * 33), told([BIGGEST] * 255), least(BIGGEST, []), least(0, [10] * 255),
-               odd(BIGGEST), bit(5), bit(BIGGEST), turn(5), turn(BIGGEST), set_word(BIGGEST, BIGGEST), ask(BIGGEST)]
+               odd(BIGGEST), bit(5), bit(BIGGEST), turn(5), turn(BIGGEST), set_word(BIGGEST, BIGGEST), ask(BIGGEST),
+               yes(1, 0), yes(BIGGEST, BIGGEST), swayat(BIGGEST, BIGGEST, BIGGEST), slope(2, 1), half(0),
+               half(BIGGEST), width(0, 2, 1, 0), width(BIGGEST, BIGGEST, BIGGEST, BIGGEST), tries(2, 1, 0),
+               tries(BIGGEST, BIGGEST, BIGGEST), steepest(0), steepest(BIGGEST), fixed(0), fixed(BIGGEST)]
 
-# The calls that come with later work: their numbers are read, too, so that the call behind is found.
-LATER_CALLS = [[11], [12], [13, 1, 2], [14, 0, 1, 2], [15, 1, 2], [16], [17, 8], [18, 8, 1, 2, 3], [19, 1, 2, 3],
-               [20, 8], [21, 8]]
+# a by b that is no chance: b isn't 1 to 100, or a is above b.
+NO_CHANCES = [(0, 0), (1, 0), (BIGGEST, 0), (0, 101), (1, 101), (101, 101), (102, 101), (0, BIGGEST), (2, 1),
+              (101, 100), (BIGGEST, 1), (BIGGEST, 100), (BIGGEST, BIGGEST)]
+
+# d that chances aren't told by.
+NO_SCALES = [0, 101, 102, 200, BIGGEST]
+
+# Answers that what's refused is to leave as they are: yes to all, no to all, and some between.
+MADE = [NEGATED, told([0]), told([]), odd(1), bit(0)]
 
 
 class BeforeABegin(unittest.TestCase):
     def test_every_other_call_whatever_it_is_handed(self):
-        for call in RIGHT_CALLS + WRONG_CALLS + LATER_CALLS:
+        for call in RIGHT_CALLS + WRONG_CALLS:
             self.assertEqual(run(call), [[-11]], call)
 
     def test_the_call_behind_is_found(self):
-        for call in RIGHT_CALLS + WRONG_CALLS + LATER_CALLS:
+        for call in RIGHT_CALLS + WRONG_CALLS:
             self.assertEqual(run(call, begin(2), NEGATED), [[-11], [0], [4]], call)
 
     def test_nothing_of_it_is_kept(self):
@@ -33,7 +44,7 @@ class BeforeABegin(unittest.TestCase):
 
     def test_a_refused_begin_is_none(self):
         for n in (0, 6, BIGGEST):
-            for call in RIGHT_CALLS + WRONG_CALLS + LATER_CALLS:
+            for call in RIGHT_CALLS + WRONG_CALLS:
                 self.assertEqual(run(begin(n), call), [[-22], [-11]], call)
 
     def test_as_numbers(self):
@@ -43,14 +54,13 @@ class BeforeABegin(unittest.TestCase):
 
 class Refused(unittest.TestCase):
     def check(self, n, call, number):
-        """The call is refused by this number, and each word is answered behind it as ahead of it."""
-        for made in (told([0]), odd(2 ** n - 1), told([]), least(0, [0] * n)):
-            for x in range(2 ** n):
-                ahead, refused, behind = run(begin(n), made, ask(x), call, ask(x))[2:]
-                self.assertEqual(refused, [number], call)
-                self.assertEqual(behind, ahead, call)
-            refused, still = run(begin(n), made, call, ask(2 ** n))[2:]
-            self.assertEqual((refused, still), ([number], [-22]), call)
+        """The call is refused by this number, and bits and words are told behind it as ahead of it."""
+        for made in MADE:
+            ahead, refused, behind = run(begin(n), made, STATE, call, STATE)[2:]
+            self.assertEqual(refused, [number], call)
+            self.assertEqual(behind, ahead, call)
+            again = run(begin(n), made, call, *ask_all(n)[:37])[3:]
+            self.assertEqual(again, [[1 if x in ahead[1:] else 0] for x in range(2 ** n)], call)
 
     def test_begin(self):
         for n in (1, 3, 5):
@@ -113,8 +123,91 @@ class Refused(unittest.TestCase):
             for wrong in (2 ** n, 2 ** n + 1, BIGGEST):
                 self.check(n, ask(wrong), -22)
 
+    def test_no_chance(self):
+        for n in (1, 2, 5):
+            for a, b in NO_CHANCES:
+                self.check(n, yes(a, b), -22)
+                self.check(n, swayat(n - 1, a, b), -22)
+                self.check(n, slope(a, b), -22)
+                self.check(n, tries(a, b, 1), -22)
+                self.check(n, width(100, a, a, b), -22)
+
+    def test_swayat_no_such_bit(self):
+        for n in (1, 2, 5):
+            for wrong in (n, n + 1, 32, BIGGEST):
+                self.check(n, swayat(wrong, 1, 2), -2)
+
+    def test_no_scale(self):
+        for n in (1, 3, 5):
+            for d in NO_SCALES:
+                self.check(n, half(d), -22)
+                self.check(n, width(d, 1, 2, 3), -22)
+                self.check(n, width(d, 0, 0, 1), -22)
+                self.check(n, steepest(d), -22)
+                self.check(n, fixed(d), -22)
+
+    def test_width_one_of_both_no_chance(self):
+        for n in (1, 5):
+            for d in (1, 100):
+                for u, v, w in [(0, 3, 2), (2, 3, 2), (3, 3, 2), (3, 2, 2), (0, 101, 100), (0, BIGGEST, 100),
+                                (BIGGEST, 0, 100), (0, 1, 0), (0, 0, 0), (0, 1, 101), (0, 0, 101), (0, 1, BIGGEST)]:
+                    self.check(n, width(d, u, v, w), -22)
+
+    def test_width_the_second_below_the_first(self):
+        for n in (1, 5):
+            for u, v, w in [(1, 0, 1), (2, 1, 3), (100, 99, 100), (50, 0, 100)]:
+                self.check(n, width(10, u, v, w), -22)
+
+    def test_tries_too_few_or_too_many(self):
+        for n in (1, 2, 5):
+            for k in (0, 7, 8, 100, BIGGEST):
+                self.check(n, tries(1, 2, k), -22)
+                self.check(n, tries(0, 1, k), -22)
+                self.check(n, tries(1, 1, k), -22)
+
+    def test_there_is_none(self):
+        for n in range(1, 6):
+            for d in (1, 2, 100):
+                self.assertEqual(run(begin(n), half(d), STATE)[1:], [[-33], [n]])
+                self.assertEqual(run(begin(n), width(d, 1, 2, 3), width(d, 0, 1, 3), STATE)[1:], [[-33], [-33], [n]])
+
+    def test_there_is_none_of_an_answer_that_falls_again(self):
+        self.assertEqual(run(begin(2), odd(3), half(3), width(3, 0, 1, 2), width(3, 1, 2, 2), STATE)[2:],
+                         [[-33], [-33], [-33], [2, 1, 2]])
+
+
+class JustRight(unittest.TestCase):
+    """The last numbers that aren't refused."""
+
+    def test_chances(self):
+        for n in (1, 5):
+            for a, b in [(0, 1), (1, 1), (0, 100), (100, 100)]:
+                replied = run(begin(n), bit(0), yes(a, b), swayat(0, a, b), slope(a, b), tries(a, b, 1),
+                              tries(a, b, 6))[2:]
+                p = [1 if a > 0 else 0, 1]
+                self.assertEqual(replied, [[0] + p, [0, 1, 1], [0, 1, 1], [0] + p + p, [0] + p + p])
+
+    def test_scales(self):
+        for n in (1, 5):
+            for d in (1, 100):
+                replied = run(begin(n), bit(n - 1), half(d), width(d, 0, 100, 100), width(d, 0, 0, 1), steepest(d),
+                              fixed(d))[2:]
+                self.assertEqual(replied, [[(d + 1) // 2], [d, 0, d], [0, 0, 0], [0, 1, 1],
+                                           [d + 1] + list(range(d + 1))])
+
 
 class Several(unittest.TestCase):
+    def test_swayat_no_such_bit_comes_ahead_of_no_chance(self):
+        for n in (1, 2, 5):
+            for a, b in NO_CHANCES:
+                self.assertEqual(run(begin(n), swayat(n, a, b), swayat(BIGGEST, a, b))[1:], [[-2], [-2]])
+
+    def test_what_is_not_right_comes_ahead_of_none(self):
+        for d in NO_SCALES:
+            self.assertEqual(run(begin(2), half(d), width(d, 1, 2, 3))[1:], [[-22], [-22]])
+        for u, v, w in [(2, 1, 2), (1, 3, 2), (1, 1, 0), (1, 1, 101)]:
+            self.assertEqual(run(begin(2), width(10, u, v, w), width(10, 1, 2, 2))[1:], [[-22], [-33]])
+
     def test_before_a_begin_comes_first(self):
         self.assertEqual(run(bit(BIGGEST), turn(9), set_word(99, 2), told([99] * 33), least(1, [10])), [[-11]] * 5)
 
